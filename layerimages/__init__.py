@@ -1,0 +1,1 @@
+"""Layer compositing: layered images, made and asked for by lists of calls."""
