@@ -1,12 +1,13 @@
 """Lists of calls on a new document, and what they answer."""
 
 from layerimages.document import Document
-from layerimages.operations import add_adjustment, add_group, add_layer
-from layerimages.operations import new_canvas, paint, set_layer, set_mask
-from layerimages.refusals import CannotClip, NoSuchLayer, OutOfRange, WrongSetting
+from layerimages.operations import add_adjustment, add_group, add_layer, list_layers, move
+from layerimages.operations import new_canvas, paint, pixel, remove, render, render_layer
+from layerimages.operations import set_layer, set_mask
+from layerimages.refusals import CannotClip, NoSuchLayer, OutOfRange, TooFewLayers, WrongSetting
 
 # How many arguments each operation takes, by its number.
-ARGUMENT_COUNTS = (2, 1, 2, 2, 9, 6, 5)
+ARGUMENT_COUNTS = (2, 1, 2, 2, 9, 6, 5, 3, 1, 0, 2, 1, 1)
 
 
 def split_calls(calls):
@@ -38,7 +39,19 @@ def run_call(document, call):
         )
     if operation == 5:
         return set_mask(document, call[1], call[2], call[3], call[4], call[5], call[6])
-    return set_layer(document, call[1], call[2], call[3], call[4], call[5])
+    if operation == 6:
+        return set_layer(document, call[1], call[2], call[3], call[4], call[5])
+    if operation == 7:
+        return move(document, call[1], call[2], call[3])
+    if operation == 8:
+        return remove(document, call[1])
+    if operation == 9:
+        return render(document)
+    if operation == 10:
+        return pixel(document, call[1], call[2])
+    if operation == 11:
+        return render_layer(document, call[1])
+    return list_layers(document, call[1])
 
 
 def answer_call(document, call):
@@ -53,6 +66,8 @@ def answer_call(document, call):
         return [-3]
     except CannotClip:
         return [-4]
+    except TooFewLayers:
+        return [-5]
 
 
 def answers(calls):

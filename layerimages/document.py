@@ -47,6 +47,22 @@ class Document:
             level = level + 1
         return level
 
+    def with_inner(self, number):
+        """The number of a layer, and then those of all layers in it."""
+        found = [number]
+        looked_at = 0
+        while looked_at < len(found):
+            layer = self.layers[found[looked_at]]
+            if isinstance(layer, Group):
+                found.extend(layer.members)
+            looked_at = looked_at + 1
+        return found
+
+    def levels_of(self, number):
+        """How many levels a layer and those in it take up."""
+        above = self.level_in(self.layers[number].parent) - 1
+        return max([self.level_in(self.layers[one].parent) for one in self.with_inner(number)]) - above
+
     def put_highest(self, layer):
         """Put a new layer above all others of its group, and answer its number."""
         number = self.next_number
@@ -54,6 +70,21 @@ class Document:
         self.layers[number] = layer
         self.next_number = number + 1
         return number
+
+    def put_into(self, number, parent, position):
+        """Move a layer to a group (0: the root), with so many of its other layers below it."""
+        layer = self.layers[number]
+        self.members_of(layer.parent).remove(number)
+        self.members_of(parent).insert(position, number)
+        layer.parent = parent
+
+    def take_out(self, number):
+        """Remove a layer and everything in it, and answer how many layers these are."""
+        gone = self.with_inner(number)
+        self.members_of(self.layers[number].parent).remove(number)
+        for one in gone:
+            self.layers.pop(one)
+        return len(gone)
 
     def box(self, x, y, width, height):
         """The places, in a list with one for each position, of the box's part on the canvas."""

@@ -1,7 +1,9 @@
 """The operations: each answers a list of numbers, or raises its error before it changes anything."""
 
+from layerimages.compositing import image_pixel, own_pixel
 from layerimages.layers import AdjustmentLayer, Group, RasterLayer, empty_pixel
-from layerimages.refusals import CannotClip, NoSuchLayer, OutOfRange, WrongSetting
+from layerimages.pixels import bytes_of_pixel
+from layerimages.refusals import CannotClip, NoSuchLayer, OutOfRange, TooFewLayers, WrongSetting
 
 LARGEST_SIDE = 6
 MOST_LAYERS = 12
@@ -67,12 +69,12 @@ def paint(document, number, x, y, width, height, red, green, blue, alpha):
         raise NoSuchLayer()
     for byte in (red, green, blue, alpha):
         check_setting(byte, HIGHEST_BYTE)
-    pixel = (red, green, blue, alpha)
+    painted = (red, green, blue, alpha)
     if alpha == 0:
         # A pixel with alpha 0 is black, whatever colour it is painted with.
-        pixel = empty_pixel()
+        painted = empty_pixel()
     for place in document.box(x, y, width, height):
-        layer.pixels[place] = pixel
+        layer.pixels[place] = painted
     return [0]
 
 
@@ -99,3 +101,62 @@ def set_layer(document, number, mode, opacity, clip, visible):
     layer.clip = clip
     layer.visible = visible
     return [0]
+
+
+def move(document, number, parent, position):
+    """Move a layer, with everything in it, to a place in a group."""
+    document.find_layer(number)
+    others = [other for other in document.members_of(parent) if other != number]
+    if parent in document.with_inner(number):
+        raise NoSuchLayer()
+    if document.level_in(parent) + document.levels_of(number) - 1 > HIGHEST_LEVEL:
+        raise OutOfRange()
+    if position > len(others):
+        raise TooFewLayers()
+    document.put_into(number, parent, position)
+    return [0]
+
+
+def remove(document, number):
+    """Remove a layer and everything in it."""
+    document.find_layer(number)
+    return [document.take_out(number)]
+
+
+def render(document):
+    """The bytes of all pixels of the image, row by row."""
+    numbers = []
+    for place in range(document.size()):
+        numbers.extend(bytes_of_pixel(image_pixel(document, place)))
+    return numbers
+
+
+def pixel(document, x, y):
+    """The exact values of one pixel of the image: for each one its two whole numbers."""
+    if x >= document.width or y >= document.height:
+        raise OutOfRange()
+    numbers = []
+    for value in image_pixel(document, y * document.width + x):
+        numbers.extend(value)
+    return numbers
+
+
+def render_layer(document, number):
+    """The bytes of the own pixels of a raster layer or of a group, row by row."""
+    layer = document.find_layer(number)
+    if isinstance(layer, AdjustmentLayer):
+        raise NoSuchLayer()
+    numbers = []
+    for place in range(document.size()):
+        numbers.extend(bytes_of_pixel(own_pixel(document, layer, place)))
+    return numbers
+
+
+def list_layers(document, parent):
+    """How many layers a group has, and what each of them is set to, from the lowest on."""
+    members = document.members_of(parent)
+    numbers = [len(members)]
+    for number in members:
+        layer = document.layers[number]
+        numbers.extend([number, layer.mode, layer.opacity, layer.clip, layer.visible])
+    return numbers

@@ -2,7 +2,7 @@
 
 
 class OutOfRange(ValueError):
-    """A size is out of range, there are too many layers, or a level would be too high."""
+    """A size or a position is out of range, there are too many layers, or a level would be too high."""
 
 
 class NoSuchLayer(ValueError):
@@ -15,3 +15,7 @@ class WrongSetting(ValueError):
 
 class CannotClip(ValueError):
     """A pass-through group can't be clipped."""
+
+
+class TooFewLayers(ValueError):
+    """The group doesn't have so many other layers."""

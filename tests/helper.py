@@ -1,5 +1,7 @@
 """What the tests share: calls by name, answers call by call, and a look at a whole document."""
 
+from fractions import Fraction
+
 from layerimages.canvas import answer_call, answers
 from layerimages.document import Document
 from layerimages.layers import AdjustmentLayer, Group, RasterLayer
@@ -35,6 +37,30 @@ def set_layer(layer, mode, opacity, clip, visible):
     return [6, layer, mode, opacity, clip, visible]
 
 
+def move(layer, parent, position):
+    return [7, layer, parent, position]
+
+
+def remove(layer):
+    return [8, layer]
+
+
+def render():
+    return [9]
+
+
+def pixel(x, y):
+    return [10, x, y]
+
+
+def render_layer(layer):
+    return [11, layer]
+
+
+def list_layers(parent):
+    return [12, parent]
+
+
 def flat(calls):
     return [number for call in calls for number in call]
 
@@ -62,6 +88,29 @@ def single_answers(calls):
 
 def last_answer(calls):
     return single_answers(calls)[-1]
+
+
+def fractions_of(numbers):
+    """What pixel answers, as four fractions: red, green, blue and alpha."""
+    return [Fraction(top, bottom) for top, bottom in zip(numbers[::2], numbers[1::2])]
+
+
+def exact_pixel(calls, x=0, y=0):
+    """The exact values of a pixel of the image after these calls."""
+    return fractions_of(answer_lists(calls + [pixel(x, y)])[-1])
+
+
+def image_after(calls):
+    """The bytes of the image after these calls, four for each pixel."""
+    numbers = answer_lists(calls + [render()])[-1]
+    return [tuple(numbers[start:start + 4]) for start in range(0, len(numbers), 4)]
+
+
+def order_after(calls, parent=0):
+    """The numbers of the layers of a group after these calls, from the lowest on."""
+    numbers = answer_lists(calls + [list_layers(parent)])[-1]
+    assert len(numbers) == 1 + 5 * numbers[0], numbers
+    return numbers[1::5]
 
 
 def document_after(calls):

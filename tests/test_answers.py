@@ -3,7 +3,8 @@
 import unittest
 
 from helper import LARGEST, add_adjustment, add_group, add_layer, answer_lists, flat
-from helper import new_canvas, paint, set_layer, set_mask, single_answers
+from helper import list_layers, move, new_canvas, paint, pixel, remove, render, render_layer
+from helper import set_layer, set_mask, single_answers
 from layerimages.canvas import answers
 
 ALL_CALLS = [
@@ -17,6 +18,23 @@ ALL_CALLS = [
     paint(2, (0, 0, 1, 1), (1, 2, 3, 4)),
     new_canvas(7, 1),
     set_layer(2, 0, 255, 1, 1),
+    render(),
+    set_layer(1, 0, 51, 0, 1),
+    move(2, 0, 2),
+    move(2, 0, 0),
+    render(),
+    pixel(0, 0),
+    render_layer(1),
+    list_layers(0),
+    remove(2),
+    list_layers(0),
+]
+DUE = [
+    [0], [1], [2], [3], [0], [0], [0], [-2], [-1], [-4], [0] * 24, [0], [-5], [0],
+    [10, 20, 30, 8] * 2 + [0] * 4 + [10, 20, 30, 8] * 2 + [0] * 4,
+    [2, 51, 4, 51, 2, 17, 8, 255],
+    [10, 20, 30, 40] * 2 + [0] * 4 + [10, 20, 30, 40] * 2 + [0] * 4,
+    [2, 2, 0, 255, 0, 1, 1, 0, 51, 0, 1], [2], [1, 1, 0, 51, 0, 1],
 ]
 
 
@@ -40,8 +58,18 @@ class AnswersTest(unittest.TestCase):
         self.assertEqual(answers([6, 1, 0, 255, 0, 1]), [1, -2])
 
     def test_every_call_and_every_error_code(self):
-        self.assertEqual(single_answers(ALL_CALLS), [0, 1, 2, 3, 0, 0, 0, -2, -1, -4])
+        self.assertEqual(answer_lists(ALL_CALLS), DUE)
+        self.assertEqual(sorted({call[0] for call in ALL_CALLS}), list(range(13)))
         self.assertEqual(single_answers([add_group(0, 2)]), [-3])
+
+    def test_each_answer_stands_behind_how_many_numbers_it_has(self):
+        self.assertEqual(
+            answers(flat(ALL_CALLS)), flat([len(numbers)] + numbers for numbers in DUE)
+        )
+
+    def test_the_longest_answers(self):
+        calls = [new_canvas(6, 6)] + [render()] * 39
+        self.assertEqual(answer_lists(calls), [[0]] + [[0] * 144] * 39)
 
     def test_answers_are_a_list_of_whole_numbers(self):
         told = answers(flat(ALL_CALLS))
